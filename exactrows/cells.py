@@ -1,0 +1,117 @@
+"""The floating kinds: what their cells mean, and how an exact number becomes a cell."""
+
+# Of each kind: its bits of exponent, its bits of fraction.
+FLOATING_KINDS = {9: (5, 10), 10: (8, 7), 11: (8, 23), 12: (11, 52)}
+
+TOO_GREAT = 4
+TOO_SMALL = 8
+NOT_EXACT = 16
+
+
+class Shape:
+    """How the cells of one floating kind are laid out."""
+
+    def __init__(self, exponent_bits, fraction_bits):
+        self.fraction_bits = fraction_bits
+        self.sign = 1 << (exponent_bits + fraction_bits)
+        self.infinite = ((1 << exponent_bits) - 1) << fraction_bits
+        self.none = self.infinite + (1 << (fraction_bits - 1))
+        # The least ordinary number is 2 to this power.
+        self.least_power = 2 - (1 << (exponent_bits - 1))
+        # Each number of the kind is a whole multiple of its unit, 2 to the power -unit_depth.
+        self.unit_depth = fraction_bits - self.least_power
+
+
+def is_floating(kind):
+    """Whether the kind is one of the floating ones."""
+    return kind in FLOATING_KINDS
+
+
+def shape_of(kind):
+    """The shape of a floating kind."""
+    bits = FLOATING_KINDS[kind]
+    return Shape(bits[0], bits[1])
+
+
+def is_cell(shape, cell):
+    """Whether the whole number is a cell of the kind."""
+    return 0 <= cell < 2 * shape.sign
+
+
+def is_number(shape, cell):
+    """Whether the cell is neither none nor infinite."""
+    return (cell & shape.infinite) != shape.infinite
+
+
+def units_of(shape, cell):
+    """How many of the kind's units the number of a cell is, with its sign."""
+    hidden = 1 << shape.fraction_bits
+    fraction = cell & (hidden - 1)
+    exponent = (cell & shape.infinite) >> shape.fraction_bits
+    size = fraction
+    if exponent > 0:
+        size = (hidden + fraction) << (exponent - 1)
+    if (cell & shape.sign) != 0:
+        return -size
+    return size
+
+
+def floor_power(above, below):
+    """The p for which 2 to the p is at most above / below, and 2 to the p + 1 is more; both are above 0."""
+    power = above.bit_length() - below.bit_length()
+    parts = by_power(above, below, power)
+    if parts[0] < parts[1]:
+        return power - 1
+    return power
+
+
+def by_power(above, below, power):
+    """The fraction above / below divided by 2 to the power, as its two whole parts."""
+    if power < 0:
+        return (above << -power, below)
+    return (above, below << power)
+
+
+def nearest(above, below):
+    """The whole number nearest to above / below, the even one of two as near; neither is below 0."""
+    whole = above // below
+    twice_left = 2 * (above % below)
+    if twice_left > below or (twice_left == below and whole % 2 == 1):
+        return whole + 1
+    return whole
+
+
+def rounded(shape, above, below):
+    """The flags and the cell of above / below, rounded once."""
+    if above == 0:
+        return [0, 0]
+    sign = shape.sign if (above < 0) != (below < 0) else 0
+    return rounded_size(shape, abs(above), abs(below), sign)
+
+
+def rounded_size(shape, above, below, sign):
+    """The flags and the cell of above / below, both above 0, with the sign's bit added to the cell."""
+    power = floor_power(above, below)
+    kept_power = max(power, shape.least_power)
+    parts = by_power(above, below, kept_power - shape.fraction_bits)
+    multiple = nearest(parts[0], parts[1])
+    # A multiple that reaches the next power of 2 carries into the exponent's bits by itself.
+    size = ((kept_power - shape.least_power) << shape.fraction_bits) + multiple
+    if size >= shape.infinite:
+        return [TOO_GREAT + NOT_EXACT, sign + shape.infinite]
+    if parts[0] == multiple * parts[1]:
+        return [0, sign + size]
+    if stays_small(shape, above, below, power):
+        return [TOO_SMALL + NOT_EXACT, sign + size]
+    return [NOT_EXACT, sign + size]
+
+
+def stays_small(shape, above, below, power):
+    """Whether above / below is under the least ordinary number even if rounded with all bits of fraction.
+
+    The power is the floor power of above / below.
+    """
+    if power >= shape.least_power:
+        return False
+    parts = by_power(above, below, power - shape.fraction_bits)
+    return nearest(parts[0], parts[1]) < (1 << (shape.least_power - power + shape.fraction_bits))

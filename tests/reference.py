@@ -1,0 +1,168 @@
+"""What the calls should answer, worked out by fractions, with none of the program's own code."""
+
+import struct
+from fractions import Fraction
+
+# Of each floating kind: its bits of exponent, its bits of fraction.
+BITS = {9: (5, 10), 10: (8, 7), 11: (8, 23), 12: (11, 52)}
+KINDS = sorted(BITS)
+
+
+def sign_bit(kind):
+    e, m = BITS[kind]
+    return 2 ** (e + m)
+
+
+def infinite(kind):
+    e, m = BITS[kind]
+    return (2 ** e - 1) * 2 ** m
+
+
+def none(kind):
+    return infinite(kind) + 2 ** (BITS[kind][1] - 1)
+
+
+def greatest(kind):
+    """The cell of the greatest number."""
+    return infinite(kind) - 1
+
+
+def least_ordinary(kind):
+    """The cell of the least ordinary number."""
+    return 2 ** BITS[kind][1]
+
+
+def unit(kind):
+    """The least number above 0."""
+    e, m = BITS[kind]
+    return Fraction(2) ** (2 - 2 ** (e - 1) - m)
+
+
+def negative(kind, cell):
+    return cell ^ sign_bit(kind)
+
+
+def size_of(kind, cell):
+    """The number of a cell without sign; what's infinite stands for the power of 2 that would come next."""
+    e, m = BITS[kind]
+    x, f = divmod(cell, 2 ** m)
+    if x == 0:
+        return f * Fraction(2) ** (2 - 2 ** (e - 1) - m)
+    return (2 ** m + f) * Fraction(2) ** (x + 1 - 2 ** (e - 1) - m)
+
+
+def number(kind, cell):
+    if cell >= sign_bit(kind):
+        return -size_of(kind, cell - sign_bit(kind))
+    return size_of(kind, cell)
+
+
+def is_number(kind, cell):
+    return cell % sign_bit(kind) < infinite(kind)
+
+
+def cell_at_most(kind, size):
+    """The last cell without sign whose number is at most the size, by halving."""
+    low, high = 0, infinite(kind)
+    while low < high:
+        middle = (low + high + 1) // 2
+        if size_of(kind, middle) <= size:
+            low = middle
+        else:
+            high = middle - 1
+    return low
+
+
+def rounded(kind, q):
+    """The flags and the cell: the nearer one of the two cells that q lies between."""
+    q = Fraction(q)
+    if q == 0:
+        return 0, 0
+    sign = sign_bit(kind) if q < 0 else 0
+    size = abs(q)
+    cell = cell_at_most(kind, size)
+    if cell < infinite(kind):
+        middle = (size_of(kind, cell) + size_of(kind, cell + 1)) / 2
+        # The last bit of a cell is the last bit of the multiple that it stands for.
+        if size > middle or (size == middle and cell % 2 == 1):
+            cell += 1
+    if cell == infinite(kind):
+        return 4 + 16, sign + cell
+    if size_of(kind, cell) == size:
+        return 0, sign + cell
+    # From a quarter of a unit below the least ordinary number on, one bit of fraction more rounds up to it.
+    small = size < size_of(kind, least_ordinary(kind)) - unit(kind) / 4
+    return 16 + (8 if small else 0), sign + cell
+
+
+def answer(kind, numbers):
+    """The list that tells these numbers (None: what's none)."""
+    flags = 0
+    cells = []
+    for q in numbers:
+        flag, cell = (0, none(kind)) if q is None else rounded(kind, q)
+        flags |= flag
+        cells.append(cell)
+    return [flags] + cells
+
+
+def mean(kind, x):
+    if not all(is_number(kind, cell) for cell in x):
+        return [0, none(kind)]
+    return answer(kind, [sum(number(kind, cell) for cell in x) / len(x)])
+
+
+def moments(kind, x):
+    """By the sums of powers of the cells themselves, not of their distances from the mean."""
+    if not all(is_number(kind, cell) for cell in x):
+        return [0] + [none(kind)] * 5
+    n = len(x)
+    numbers = [number(kind, cell) for cell in x]
+    m, p2, p3, p4 = [sum(q ** k for q in numbers) / n for k in (1, 2, 3, 4)]
+    c2 = p2 - m ** 2
+    c3 = p3 - 3 * m * p2 + 2 * m ** 3
+    c4 = p4 - 4 * m * p3 + 6 * m ** 2 * p2 - 3 * m ** 4
+    return answer(kind, [m, c2, n * c2 / (n - 1) if n > 1 else None, c3, c4])
+
+
+def weigh(kind, x, w):
+    if not all(is_number(kind, cell) for cell in x + w):
+        return [0, none(kind)]
+    pairs = [(number(kind, a), number(kind, b)) for a, b in zip(x, w)]
+    weight = sum(b for a, b in pairs)
+    if weight == 0:
+        return [-4]
+    return answer(kind, [sum(a * b for a, b in pairs) / weight])
+
+
+def cell_of(kind, value):
+    """The cell of a Python float that the kind holds exactly, as Python itself packs it."""
+    code, whole = {9: ("<e", "<H"), 10: ("<f", "<I"), 11: ("<f", "<I"), 12: ("<d", "<Q")}[kind]
+    packed = struct.unpack(whole, struct.pack(code, value))[0]
+    if struct.unpack(code, struct.pack(code, value))[0] != value:
+        raise ValueError(f"kind {kind} doesn't hold {value}")
+    if kind != 10:
+        return packed
+    if packed % 2 ** 16 != 0:
+        raise ValueError(f"kind {kind} doesn't hold {value}")
+    return packed >> 16
+
+
+def row_of(kind, values):
+    return [cell_of(kind, value) for value in values]
+
+
+def spread_cells(kind, n, seed, low=0, high=None):
+    """n cells that are numbers, scattered over the exponents from low up to, not with, high, of both signs."""
+    e, m = BITS[kind]
+    high = 2 ** e - 1 if high is None else high
+    cells = []
+    state = seed
+    for i in range(n):
+        state = (state * 6364136223846793005 + 1442695040888963407) % 2 ** 64
+        mixed = state ^ (state >> 29)
+        x = low + (mixed >> 8) % (high - low)
+        state = (state * 6364136223846793005 + 1442695040888963407) % 2 ** 64
+        mixed = state ^ (state >> 31)
+        cells.append((mixed >> 63) * sign_bit(kind) + x * 2 ** m + mixed % 2 ** m)
+    return cells
