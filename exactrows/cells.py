@@ -1,11 +1,14 @@
-"""The floating kinds: what their cells mean, and how an exact number becomes a cell."""
+"""The kinds: what their cells mean, and how the cells of one kind stand to one another."""
 
-# Of each kind: its bits of exponent, its bits of fraction.
+# Of each whole kind: its bits.
+SIGNED_KINDS = {1: 8, 2: 16, 3: 32, 4: 64}
+UNSIGNED_KINDS = {5: 8, 6: 16, 7: 32, 8: 64}
+
+# Of each floating kind: its bits of exponent, its bits of fraction.
 FLOATING_KINDS = {9: (5, 10), 10: (8, 7), 11: (8, 23), 12: (11, 52)}
 
-TOO_GREAT = 4
-TOO_SMALL = 8
-NOT_EXACT = 16
+# The place by value of what's none, 2^64: it lies behind the places of all other cells of all kinds.
+NONE_PLACE = 18446744073709551616
 
 
 class Shape:
@@ -22,6 +25,11 @@ class Shape:
         self.unit_depth = fraction_bits - self.least_power
 
 
+def is_whole(kind):
+    """Whether the kind is one of the whole ones."""
+    return kind in SIGNED_KINDS or kind in UNSIGNED_KINDS
+
+
 def is_floating(kind):
     """Whether the kind is one of the floating ones."""
     return kind in FLOATING_KINDS
@@ -33,14 +41,30 @@ def shape_of(kind):
     return Shape(bits[0], bits[1])
 
 
-def is_cell(shape, cell):
-    """Whether the whole number is a cell of the kind."""
-    return 0 <= cell < 2 * shape.sign
+def bits_of(kind):
+    """How many bits a cell of the kind has."""
+    if kind in SIGNED_KINDS:
+        return SIGNED_KINDS[kind]
+    if kind in UNSIGNED_KINDS:
+        return UNSIGNED_KINDS[kind]
+    parts = FLOATING_KINDS[kind]
+    return 1 + parts[0] + parts[1]
+
+
+def are_cells(kind, numbers):
+    """Whether all the whole numbers are cells of the kind."""
+    end = 1 << bits_of(kind)
+    return all([0 <= number < end for number in numbers])
 
 
 def is_number(shape, cell):
     """Whether the cell is neither none nor infinite."""
     return (cell & shape.infinite) != shape.infinite
+
+
+def all_numbers(shape, row):
+    """Whether no cell of the row is none or infinite."""
+    return all([is_number(shape, cell) for cell in row])
 
 
 def units_of(shape, cell):
@@ -56,62 +80,45 @@ def units_of(shape, cell):
     return size
 
 
-def floor_power(above, below):
-    """The p for which 2 to the p is at most above / below, and 2 to the p + 1 is more; both are above 0."""
-    power = above.bit_length() - below.bit_length()
-    parts = by_power(above, below, power)
-    if parts[0] < parts[1]:
-        return power - 1
-    return power
+def row_units(shape, row):
+    """The row's numbers, each counted in the kind's unit."""
+    return [units_of(shape, cell) for cell in row]
 
 
-def by_power(above, below, power):
-    """The fraction above / below divided by 2 to the power, as its two whole parts."""
-    if power < 0:
-        return (above << -power, below)
-    return (above, below << power)
+def one_form(kind, row):
+    """The row's cells, each in its one form, in a list of their own."""
+    if is_whole(kind):
+        return list(row)
+    shape = shape_of(kind)
+    return [shape.none if size_bits(shape, cell) > shape.infinite else cell for cell in row]
 
 
-def nearest(above, below):
-    """The whole number nearest to above / below, the even one of two as near; neither is below 0."""
-    whole = above // below
-    twice_left = 2 * (above % below)
-    if twice_left > below or (twice_left == below and whole % 2 == 1):
-        return whole + 1
-    return whole
+def size_bits(shape, cell):
+    """The cell without its sign: of two cells that aren't none, the one further from 0 has the more."""
+    return cell & (shape.sign - 1)
 
 
-def rounded(shape, above, below):
-    """The flags and the cell of above / below, rounded once."""
-    if above == 0:
-        return [0, 0]
-    sign = shape.sign if (above < 0) != (below < 0) else 0
-    return rounded_size(shape, abs(above), abs(below), sign)
+def value_places(kind, row):
+    """A whole number for each cell, less, the same or more as the cells are by value; what's none behind all."""
+    if kind in UNSIGNED_KINDS:
+        return list(row)
+    if kind in SIGNED_KINDS:
+        return signed_numbers(SIGNED_KINDS[kind], row)
+    shape = shape_of(kind)
+    return [floating_place(shape, cell) for cell in row]
 
 
-def rounded_size(shape, above, below, sign):
-    """The flags and the cell of above / below, both above 0, with the sign's bit added to the cell."""
-    power = floor_power(above, below)
-    kept_power = max(power, shape.least_power)
-    parts = by_power(above, below, kept_power - shape.fraction_bits)
-    multiple = nearest(parts[0], parts[1])
-    # A multiple that reaches the next power of 2 carries into the exponent's bits by itself.
-    size = ((kept_power - shape.least_power) << shape.fraction_bits) + multiple
-    if size >= shape.infinite:
-        return [TOO_GREAT + NOT_EXACT, sign + shape.infinite]
-    if parts[0] == multiple * parts[1]:
-        return [0, sign + size]
-    if stays_small(shape, above, below, power):
-        return [TOO_SMALL + NOT_EXACT, sign + size]
-    return [NOT_EXACT, sign + size]
+def signed_numbers(bits, row):
+    """The numbers of cells of so many bits that have a sign."""
+    sign = 1 << (bits - 1)
+    return [cell - 2 * sign if cell >= sign else cell for cell in row]
 
 
-def stays_small(shape, above, below, power):
-    """Whether above / below is under the least ordinary number even if rounded with all bits of fraction.
-
-    The power is the floor power of above / below.
-    """
-    if power >= shape.least_power:
-        return False
-    parts = by_power(above, below, power - shape.fraction_bits)
-    return nearest(parts[0], parts[1]) < (1 << (shape.least_power - power + shape.fraction_bits))
+def floating_place(shape, cell):
+    """The place by value of one floating cell."""
+    size = size_bits(shape, cell)
+    if size > shape.infinite:
+        return NONE_PLACE
+    if (cell & shape.sign) != 0:
+        return -size
+    return size

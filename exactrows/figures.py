@@ -1,15 +1,14 @@
 """The calls: what rows of cells tell."""
 
-from exactrows.cells import is_cell, is_floating, is_number, rounded, shape_of, units_of
-
-MOST_CELLS = 4096
-WRONG_FORM = -1
-NOTHING_TO_TELL = -4
+from exactrows.cells import all_numbers, row_units, shape_of
+from exactrows.orders import in_order, quantile, row_ranks
+from exactrows.refusals import NOTHING_TO_TELL, numbers_refusal, quantile_refusal, row_refusal
+from exactrows.rounding import one_answer, rounded_units
 
 
 def mean(kind, x):
     """The flags and the cell of the mean, or a refusal alone."""
-    refused = refusal(kind, [x])
+    refused = numbers_refusal(kind, [x])
     if refused != 0:
         return [refused]
     shape = shape_of(kind)
@@ -20,7 +19,7 @@ def mean(kind, x):
 
 def moments(kind, x):
     """The flags of all, then the mean, c2, the sample's variance, c3 and c4, or a refusal alone."""
-    refused = refusal(kind, [x])
+    refused = numbers_refusal(kind, [x])
     if refused != 0:
         return [refused]
     shape = shape_of(kind)
@@ -34,7 +33,7 @@ def moments(kind, x):
     squares = sum([way ** 2 for way in ways])
     cubes = sum([way ** 3 for way in ways])
     fourths = sum([way ** 4 for way in ways])
-    return together([
+    return one_answer([
         rounded_units(shape, total, n, 1),
         rounded_units(shape, squares, n ** 3, 2),
         sample_variance(shape, squares, n),
@@ -45,7 +44,7 @@ def moments(kind, x):
 
 def weigh(kind, x, w):
     """The flags and the cell of the mean of x weighted by w, or a refusal alone."""
-    refused = refusal(kind, [x, w])
+    refused = numbers_refusal(kind, [x, w])
     if refused != 0:
         return [refused]
     shape = shape_of(kind)
@@ -60,24 +59,31 @@ def weigh(kind, x, w):
     return rounded_units(shape, sum(products), weight, 1)
 
 
-def refusal(kind, rows):
-    """The first refusal that holds for rows of a floating kind that go together, 0 if none does."""
-    if not is_floating(kind):
-        return WRONG_FORM
+def quant(kind, x, fractions):
+    """The flags of all, then the cell of each fraction's quantile, or a refusal alone."""
+    refused = quantile_refusal(kind, x, fractions)
+    if refused != 0:
+        return [refused]
     shape = shape_of(kind)
-    for row in rows:
-        if len(row) > MOST_CELLS or len(row) != len(rows[0]):
-            return WRONG_FORM
-        if not all([is_cell(shape, cell) for cell in row]):
-            return WRONG_FORM
-    if len(rows[0]) == 0:
-        return NOTHING_TO_TELL
-    return 0
+    ordered = in_order(kind, x)
+    results = [quantile(shape, ordered, fractions[i], fractions[i + 1]) for i in range(0, len(fractions), 2)]
+    return one_answer(results)
 
 
-def all_numbers(shape, row):
-    """Whether no cell of the row is none or infinite."""
-    return all([is_number(shape, cell) for cell in row])
+def sort(kind, x):
+    """0, then the cells in order, or a refusal alone."""
+    refused = row_refusal(kind, x)
+    if refused != 0:
+        return [refused]
+    return [0] + in_order(kind, x)
+
+
+def ranks(kind, x):
+    """0, then the rank of each cell, or a refusal alone."""
+    refused = row_refusal(kind, x)
+    if refused != 0:
+        return [refused]
+    return [0] + row_ranks(kind, x)
 
 
 def told_none(shape, many):
@@ -85,26 +91,8 @@ def told_none(shape, many):
     return [0] + [shape.none] * many
 
 
-def row_units(shape, row):
-    """The row's numbers, each counted in the kind's unit."""
-    return [units_of(shape, cell) for cell in row]
-
-
-def rounded_units(shape, above, below, degree):
-    """The flags and the cell of above / below times the kind's unit to the degree."""
-    return rounded(shape, above, below << (degree * shape.unit_depth))
-
-
 def sample_variance(shape, squares, n):
     """The flags and the cell of the sample's variance, of n cells' summed squares of n times their distance."""
     if n == 1:
         return [0, shape.none]
     return rounded_units(shape, squares, n ** 2 * (n - 1), 2)
-
-
-def together(results):
-    """One answer of several results: the flags of all, then the cell of each."""
-    flags = 0
-    for result in results:
-        flags = flags | result[0]
-    return [flags] + [result[1] for result in results]

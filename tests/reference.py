@@ -7,6 +7,13 @@ from fractions import Fraction
 BITS = {9: (5, 10), 10: (8, 7), 11: (8, 23), 12: (11, 52)}
 KINDS = sorted(BITS)
 
+# Of each kind: the bytes of a cell.
+BYTES = {1: 1, 2: 2, 3: 4, 4: 8, 5: 1, 6: 2, 7: 4, 8: 8, 9: 2, 10: 2, 11: 4, 12: 8}
+ALL_KINDS = sorted(BYTES)
+SIGNED_KINDS = [1, 2, 3, 4]
+WHOLE_KINDS = [1, 2, 3, 4, 5, 6, 7, 8]
+OTHER_KINDS = [0, 13, 14, 16, 41, 2 ** 16 + 9, 2 ** 32 + 1, 2 ** 32 + 12, 2 ** 63, 2 ** 64 - 1]
+
 
 def sign_bit(kind):
     e, m = BITS[kind]
@@ -135,6 +142,73 @@ def weigh(kind, x, w):
     return answer(kind, [sum(a * b for a, b in pairs) / weight])
 
 
+def is_none(kind, cell):
+    return kind in BITS and cell % sign_bit(kind) > infinite(kind)
+
+
+def one_form(kind, cell):
+    return none(kind) if is_none(kind, cell) else cell
+
+
+def value(kind, cell):
+    """The number that a cell is compared by; an infinite one stands beyond all numbers, what's none has no value."""
+    if kind in BITS:
+        return None if is_none(kind, cell) else number(kind, cell)
+    return int.from_bytes(cell.to_bytes(BYTES[kind], "little"), "little", signed=kind in SIGNED_KINDS)
+
+
+def order(kind, cell):
+    """What cells are sorted by: what's none behind all, then the value, then the sign before none."""
+    if is_none(kind, cell):
+        return (1, 0, 0)
+    with_sign = kind in BITS and cell >= sign_bit(kind)
+    return (0, value(kind, cell), 0 if with_sign else 1)
+
+
+def sort(kind, x):
+    return [0] + sorted((one_form(kind, cell) for cell in x), key=lambda cell: order(kind, cell))
+
+
+def ranks(kind, x):
+    """Each cell against each, as the words tell it."""
+    values = [value(kind, cell) for cell in x]
+    told = []
+    for mine in values:
+        if mine is None:
+            before = sum(other is not None for other in values)
+            same = sum(other is None for other in values)
+        else:
+            before = sum(other is not None and other < mine for other in values)
+            same = sum(other is not None and other == mine for other in values)
+        told.append(2 * before + same + 1)
+    return [0] + told
+
+
+def quantile(kind, ordered, a, b):
+    """The flags and the cell."""
+    place = Fraction((len(ordered) - 1) * a, b)
+    i = place.numerator // place.denominator
+    if place == i:
+        return 0, ordered[i]
+    low, high = ordered[i], ordered[i + 1]
+    if is_number(kind, low) and is_number(kind, high):
+        part = place - i
+        return rounded(kind, number(kind, low) * (1 - part) + number(kind, high) * part)
+    if none(kind) in (low, high):
+        return 0, none(kind)
+    beyond = [cell for cell in (low, high) if not is_number(kind, cell)]
+    return 0, beyond[0] if len(set(beyond)) == 1 else none(kind)
+
+
+def quant(kind, x, fractions):
+    ordered = sort(kind, x)[1:]
+    results = [quantile(kind, ordered, a, b) for a, b in zip(fractions[0::2], fractions[1::2])]
+    flags = 0
+    for flag, cell in results:
+        flags |= flag
+    return [flags] + [cell for flag, cell in results]
+
+
 def cell_of(kind, value):
     """The cell of a Python float that the kind holds exactly, as Python itself packs it."""
     code, whole = {9: ("<e", "<H"), 10: ("<f", "<I"), 11: ("<f", "<I"), 12: ("<d", "<Q")}[kind]
@@ -165,4 +239,51 @@ def spread_cells(kind, n, seed, low=0, high=None):
         state = (state * 6364136223846793005 + 1442695040888963407) % 2 ** 64
         mixed = state ^ (state >> 31)
         cells.append((mixed >> 63) * sign_bit(kind) + x * 2 ** m + mixed % 2 ** m)
+    return cells
+
+
+def scattered(n, seed):
+    """n whole numbers below 2^64, the same each time."""
+    state = seed * 2654435761 + 12345
+    numbers = []
+    for i in range(n):
+        state = (state * 6364136223846793005 + 1442695040888963407) % 2 ** 64
+        mixed = ((state >> 32) ^ state) * 0x9E3779B97F4A7C15 % 2 ** 64
+        numbers.append(mixed ^ (mixed >> 29))
+    return numbers
+
+
+def odd_cells(kind):
+    """Cells of a floating kind that are infinite or none, with the sign and without."""
+    size = infinite(kind)
+    sizes = (size, none(kind), size + 1, none(kind) + 1, none(kind) - 1, sign_bit(kind) - 1)
+    return [cell for size in sizes for cell in (size, negative(kind, size))]
+
+
+def edge_cells(kind):
+    """The cells of a kind beside which something changes."""
+    if kind not in BITS:
+        half = 2 ** (8 * BYTES[kind] - 1)
+        return [0, 1, 2, half - 2, half - 1, half, half + 1, 2 * half - 2, 2 * half - 1]
+    one = cell_of(kind, 1.0)
+    least = least_ordinary(kind)
+    sizes = (0, 1, 2, least - 1, least, least + 1, one - 1, one, one + 1, greatest(kind))
+    return [cell for size in sizes for cell in (size, negative(kind, size))] + odd_cells(kind)
+
+
+def no_cells(kind):
+    """Numbers that may be handed in and are no cells of the kind; none of them for kinds of 64 bits."""
+    end = 2 ** (8 * BYTES[kind])
+    return sorted(number for number in {end, end + 1, 2 ** 63, 2 ** 64 - 1} if end <= number < 2 ** 64)
+
+
+def mixed_cells(kind, n, seed):
+    """n cells of a kind: any ones, and among them ones of edge_cells, so that some come again."""
+    edges = edge_cells(kind)
+    cells = []
+    for mixed in scattered(n, seed):
+        if mixed % 3 == 0:
+            cells.append(edges[(mixed >> 8) % len(edges)])
+        else:
+            cells.append((mixed >> 5) % 2 ** (8 * BYTES[kind]))
     return cells

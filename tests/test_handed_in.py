@@ -1,9 +1,11 @@
 """What is handed in stays as it is, and nothing is kept from one call to the next."""
 
+import copy
 import unittest
 
-from exactrows.figures import mean, moments, weigh
+from exactrows.figures import weigh
 from tests import reference as ref
+from tests.examples import call, examples
 
 
 class ReadOnly(list):
@@ -16,29 +18,19 @@ class ReadOnly(list):
     __setitem__ = __delitem__ = __iadd__ = __imul__ = refuse
 
 
-def rows(kind):
-    """Rows that are answered, then rows that are refused."""
-    one = ref.cell_of(kind, 1.0)
-    return [
-        [one + 3, one, ref.sign_bit(kind), 7], ref.spread_cells(kind, 20, kind), [one],
-        [one, ref.none(kind) + 1, ref.negative(kind, ref.infinite(kind))], [0, 0, ref.sign_bit(kind)],
-        [], [one] * 4097, [one, 2 ** 64 - 1],
-    ]
-
-
-def calls(kind, x, w):
-    return [mean(kind, x), moments(kind, x), weigh(kind, x, w), weigh(kind, w, x), weigh(kind, x, w[1:])]
+def read_only(value):
+    return ReadOnly(read_only(inner) for inner in value) if isinstance(value, list) else value
 
 
 class HandedIn(unittest.TestCase):
     def test_nothing_is_changed(self):
-        for kind in ref.KINDS + [0, 1, 8, 13]:
-            for row in rows(kind if kind in ref.KINDS else 9):
-                x = ReadOnly(row)
-                w = ReadOnly(reversed(row))
-                calls(kind, x, w)
-                self.assertEqual(list(x), row)
-                self.assertEqual(list(w), row[::-1])
+        for name, args in examples():
+            handed = [read_only(arg) for arg in args]
+            call(name, handed)
+            self.assertEqual(handed, list(args), name)
+            plain = copy.deepcopy(args)
+            call(name, plain)
+            self.assertEqual(plain, args, name)
 
     def test_one_list_as_both_rows(self):
         for kind in ref.KINDS:
@@ -46,27 +38,40 @@ class HandedIn(unittest.TestCase):
             self.assertEqual(weigh(kind, row, row), [0, ref.cell_of(kind, 3.75)])
             self.assertEqual(row, ref.row_of(kind, [1.0, 2.0, 5.0]))
 
+    def test_an_answer_is_a_list_of_its_own(self):
+        for name, args in examples():
+            handed = copy.deepcopy(args)
+            call(name, handed).append(7)
+            self.assertEqual(handed, args, name)
+
 
 class NothingKept(unittest.TestCase):
     def test_a_call_again_answers_the_same(self):
-        first = {}
-        for turn in range(2):
-            for kind in ref.KINDS + [0, 13]:
-                for i, row in enumerate(rows(kind if kind in ref.KINDS else 9)):
-                    got = calls(kind, row, row[::-1])
-                    self.assertEqual(got, first.setdefault((kind, i), got))
+        first = [call(name, args) for name, args in examples()]
+        self.assertEqual([call(name, args) for name, args in examples()], first)
+        backwards = [call(name, args) for name, args in reversed(examples())]
+        self.assertEqual(backwards[::-1], first)
 
     def test_an_answer_that_is_changed_changes_no_other(self):
-        for kind in ref.KINDS:
-            for row in rows(kind):
-                told = calls(kind, row, row[::-1])
-                for answer in calls(kind, row, row[::-1]):
-                    answer.clear()
-                self.assertEqual(calls(kind, row, row[::-1]), told)
+        for name, args in examples():
+            told = call(name, args)
+            call(name, args).clear()
+            self.assertEqual(call(name, args), told, name)
 
     def test_answers_are_lists_of_whole_numbers(self):
-        for kind in ref.KINDS + [0]:
-            for row in rows(kind if kind in ref.KINDS else 9):
-                for answer in calls(kind, row, row[::-1]):
-                    self.assertIs(type(answer), list)
-                    self.assertEqual({type(number) for number in answer}, {int})
+        for name, args in examples():
+            answer = call(name, args)
+            self.assertIs(type(answer), list, name)
+            self.assertEqual({type(number) for number in answer}, {int}, name)
+
+    def test_refusals_stand_alone_and_both_ways_are_among_the_examples(self):
+        answered, refused = set(), set()
+        for name, args in examples():
+            answer = call(name, args)
+            if answer[0] < 0:
+                self.assertIn(answer, ([-1], [-2], [-4]), name)
+                refused.add(name)
+            else:
+                self.assertTrue(all(number >= 0 for number in answer), name)
+                answered.add(name)
+        self.assertEqual(answered, refused)

@@ -40,6 +40,14 @@ NAMES_NOT_USED = set("""
     methodcaller os quit setattr super type vars sys
 """.split())
 
+CHANGES = set("append clear extend insert pop remove reverse setdefault update".split())
+
+WALKS = set("zip enumerate reversed range".split())
+WALKERS = set("list tuple dict sorted sum any all enumerate zip min max".split())
+
+# What the interface names is called from outside.
+CALLS = set("mean moments weigh quant sort ranks hist most cov covs corr line pairs again shuffle".split())
+
 
 def files():
     return sorted(os.listdir(PACKAGE))
@@ -56,6 +64,51 @@ def trees():
 
 def nodes(kinds):
     return [(name, node) for name, tree in trees() for node in ast.walk(tree) if isinstance(node, kinds)]
+
+
+def top_names(tree):
+    names = []
+    for node in tree.body:
+        if isinstance(node, (ast.FunctionDef, ast.ClassDef)):
+            names.append(node.name)
+        elif isinstance(node, ast.Assign):
+            names.append(node.targets[0].id)
+    return names
+
+
+def imported(tree):
+    return [alias.name for node in tree.body if isinstance(node, ast.ImportFrom) for alias in node.names]
+
+
+def local_names(function):
+    stored = {node.id for node in ast.walk(function) if isinstance(node, ast.Name) and isinstance(node.ctx, ast.Store)}
+    return stored | {node.arg for node in ast.walk(function) if isinstance(node, ast.arg)}
+
+
+def holds_lists(values):
+    """Whether a list or dict stands somewhere within the values."""
+    for value in values:
+        if isinstance(value, (list, dict)) or (isinstance(value, tuple) and holds_lists(value)):
+            return True
+    return False
+
+
+def is_walk(call):
+    """Whether the call makes something that is to be walked where it stands."""
+    if isinstance(call.func, ast.Attribute):
+        return call.func.attr in ("items", "keys", "values")
+    return isinstance(call.func, ast.Name) and call.func.id in WALKS
+
+
+def walking_spots(tree):
+    """The places, by their identity, at which such a thing may stand."""
+    spots = set()
+    for node in ast.walk(tree):
+        if isinstance(node, (ast.For, ast.comprehension)):
+            spots.add(id(node.iter))
+        if isinstance(node, ast.Call) and isinstance(node.func, ast.Name) and node.func.id in WALKERS:
+            spots |= {id(arg) for arg in node.args}
+    return spots
 
 
 class Texts(unittest.TestCase):
@@ -111,6 +164,7 @@ class Statements(unittest.TestCase):
             self.assertEqual(node.orelse, [], (name, node.lineno))
         for name, node in nodes(ast.Assign):
             self.assertEqual(len(node.targets), 1, (name, node.lineno))
+            self.assertNotIsInstance(node.targets[0], (ast.Tuple, ast.List), (name, node.lineno))
         for name, node in nodes(ast.ListComp):
             self.assertEqual(len(node.generators), 1, (name, node.lineno))
             self.assertLessEqual(len(node.generators[0].ifs), 1, (name, node.lineno))
@@ -151,3 +205,98 @@ class Values(unittest.TestCase):
                 if isinstance(op, (ast.Is, ast.IsNot)):
                     self.assertIsInstance(right, ast.Constant, (name, node.lineno))
                     self.assertIn(right.value, (None, True, False), (name, node.lineno))
+
+    def test_texts_and_numbers(self):
+        for name, tree in trees():
+            self.assertNotIn("\\", text_of(name), name)
+        for name, node in nodes(ast.Constant):
+            if isinstance(node.value, str):
+                self.assertNotIn("%", node.value, (name, node.lineno))
+            elif node.value is not None:
+                self.assertLess(abs(int(node.value)), 10 ** 900, (name, node.lineno))
+
+    def test_no_sets(self):
+        self.assertEqual(nodes(ast.Set), [])
+        self.assertEqual([where for where in nodes(ast.Name) if where[1].id in ("set", "frozenset")], [])
+
+
+class Names(unittest.TestCase):
+    """Each name once, from the file that defines it, and in one meaning."""
+
+    def test_names_at_the_top_are_bound_once(self):
+        for name, tree in trees():
+            bound = top_names(tree) + imported(tree)
+            self.assertEqual(len(bound), len(set(bound)), name)
+            for word in bound:
+                self.assertRegex(word, r"^[A-Za-z][A-Za-z0-9_]*$", name)
+                self.assertFalse(hasattr(builtins, word), (name, word))
+
+    def test_values_at_the_top_are_plain(self):
+        for name, tree in trees():
+            for node in tree.body:
+                if isinstance(node, ast.Assign):
+                    value = ast.literal_eval(node.value)
+                    inner = list(value.items()) if isinstance(value, dict) else value
+                    if isinstance(inner, (list, tuple)):
+                        self.assertFalse(holds_lists(inner), (name, node.lineno))
+
+    def test_locals_are_not_called_like_what_stands_at_the_top(self):
+        for name, tree in trees():
+            top = set(top_names(tree) + imported(tree))
+            for node in ast.walk(tree):
+                if isinstance(node, (ast.FunctionDef, ast.Lambda)):
+                    self.assertEqual(local_names(node) & top, set(), (name, node.lineno))
+
+    def test_imports_are_from_the_file_that_defines_the_name_and_used(self):
+        tops = {"exactrows." + name[:-3]: top_names(tree) for name, tree in trees()}
+        for name, tree in trees():
+            used = {node.id for node in ast.walk(tree) if isinstance(node, ast.Name)}
+            for node in tree.body:
+                if isinstance(node, ast.ImportFrom):
+                    for alias in node.names:
+                        self.assertIn(alias.name, tops[node.module], (name, node.lineno))
+                        self.assertIn(alias.name, used, (name, node.lineno))
+
+    def test_no_two_files_draw_from_one_another(self):
+        draws = {"exactrows." + name[:-3]: {node.module for node in tree.body if isinstance(node, ast.ImportFrom)}
+                 for name, tree in trees()}
+        left = dict(draws)
+        while left:
+            free = [name for name in left if not (left[name] & set(left))]
+            self.assertNotEqual(free, [], sorted(left))
+            for name in free:
+                left.pop(name)
+
+    def test_functions_are_used(self):
+        words = [node.id for name, node in nodes(ast.Name)]
+        for name, tree in trees():
+            for word in top_names(tree):
+                if word not in CALLS:
+                    self.assertIn(word, words, name)
+
+
+class Walks(unittest.TestCase):
+    def test_walked_on_the_spot(self):
+        for name, tree in trees():
+            spots = walking_spots(tree)
+            for node in ast.walk(tree):
+                if isinstance(node, ast.Call) and is_walk(node):
+                    self.assertIn(id(node), spots, (name, node.lineno))
+
+    def test_what_is_walked_is_not_changed(self):
+        for name, node in nodes(ast.For):
+            walked = {inner.id for inner in ast.walk(node.iter) if isinstance(inner, ast.Name)}
+            for inner in ast.walk(node):
+                if isinstance(inner, ast.Subscript) and isinstance(inner.ctx, ast.Store):
+                    self.assertNotIn(getattr(inner.value, "id", None), walked, (name, inner.lineno))
+                if isinstance(inner, ast.Call) and isinstance(inner.func, ast.Attribute) and inner.func.attr in CHANGES:
+                    self.assertNotIn(getattr(inner.func.value, "id", None), walked, (name, inner.lineno))
+
+    def test_parameters_are_not_changed(self):
+        for name, function in nodes(ast.FunctionDef):
+            handed = {arg.arg for arg in function.args.args} - {"self"}
+            for inner in ast.walk(function):
+                if isinstance(inner, ast.Subscript) and isinstance(inner.ctx, ast.Store):
+                    self.assertNotIn(getattr(inner.value, "id", None), handed, (name, inner.lineno))
+                if isinstance(inner, ast.Call) and isinstance(inner.func, ast.Attribute) and inner.func.attr in CHANGES:
+                    self.assertNotIn(getattr(inner.func.value, "id", None), handed, (name, inner.lineno))

@@ -1,0 +1,51 @@
+"""What the calls refuse, and with which number; 0 where nothing is refused."""
+
+from exactrows.cells import are_cells, is_floating, is_whole
+
+MOST_CELLS = 4096
+MOST_FRACTIONS = 4096
+# The first whole number that is too great for one of a fraction's two, 2^32.
+FRACTION_END = 4294967296
+
+WRONG_FORM = -1
+WRONG_ORDER = -2
+NOTHING_TO_TELL = -4
+
+
+def row_refusal(kind, row):
+    """The refusal of one row of any kind, which may be without cells."""
+    if not (is_whole(kind) or is_floating(kind)):
+        return WRONG_FORM
+    return cells_refusal(kind, row, MOST_CELLS)
+
+
+def cells_refusal(kind, cells, most_cells):
+    """The refusal of cells of a kind that there is, which are to be so many at most."""
+    if len(cells) > most_cells or not are_cells(kind, cells):
+        return WRONG_FORM
+    return 0
+
+
+def numbers_refusal(kind, rows):
+    """The refusal of rows that go together and tell numbers of a floating kind."""
+    if not is_floating(kind):
+        return WRONG_FORM
+    for row in rows:
+        if len(row) != len(rows[0]) or cells_refusal(kind, row, MOST_CELLS) != 0:
+            return WRONG_FORM
+    if len(rows[0]) == 0:
+        return NOTHING_TO_TELL
+    return 0
+
+
+def quantile_refusal(kind, row, fractions):
+    """The refusal of a row of a floating kind with fractions, the two numbers of each one behind another."""
+    refused = numbers_refusal(kind, [row])
+    if refused == WRONG_FORM or len(fractions) > 2 * MOST_FRACTIONS:
+        return WRONG_FORM
+    if any([number >= FRACTION_END for number in fractions]):
+        return WRONG_FORM
+    for i in range(0, len(fractions), 2):
+        if fractions[i + 1] == 0 or fractions[i] > fractions[i + 1]:
+            return WRONG_ORDER
+    return refused

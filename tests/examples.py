@@ -1,0 +1,45 @@
+"""Arguments for each call, some that are answered and some that are refused."""
+
+from exactrows import figures
+from tests import reference as ref
+
+ODD_KINDS = [0, 13, 2 ** 64 - 1]
+
+
+def rows(kind):
+    """Rows that are answered, then rows that some calls or all refuse."""
+    kind = kind if kind in ref.ALL_KINDS else 9
+    if kind in ref.WHOLE_KINDS:
+        half = 2 ** (8 * ref.BYTES[kind] - 1)
+        answered = [[half, 3, half - 1, 3, 0], ref.mixed_cells(kind, 20, kind), [half]]
+    else:
+        one = ref.cell_of(kind, 1.0)
+        minus_infinite = ref.negative(kind, ref.infinite(kind))
+        answered = [[one + 3, one, ref.sign_bit(kind), 7], ref.spread_cells(kind, 20, kind), [one],
+                    [one, ref.none(kind) + 1, minus_infinite, one], [0, 0, ref.sign_bit(kind)]]
+    return answered + [[], [1] * 4097, [2 ** 64 - 1, 1, 0]]
+
+
+def of_one_row():
+    for kind in ref.ALL_KINDS + ODD_KINDS:
+        for row in rows(kind):
+            for name in ("mean", "moments", "sort", "ranks"):
+                yield name, (kind, row)
+            for fractions in ([1, 2, 3, 7, 0, 1], [], [1, 0], [2, 1, 1, 2], [1, 2 ** 32]):
+                yield "quant", (kind, row, fractions)
+
+
+def of_two_rows():
+    for kind in ref.ALL_KINDS + ODD_KINDS:
+        for row in rows(kind):
+            for other in (row[::-1], row[1:], row[-1:] + row[:-1]):
+                yield "weigh", (kind, row, other)
+
+
+def examples():
+    """The calls' names with their arguments."""
+    return list(of_one_row()) + list(of_two_rows())
+
+
+def call(name, args):
+    return getattr(figures, name)(*args)
