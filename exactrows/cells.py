@@ -67,17 +67,22 @@ def all_numbers(shape, row):
     return all([is_number(shape, cell) for cell in row])
 
 
+def number_parts(shape, cell):
+    """A small whole number with the cell's sign, and how many bits to the left it makes the cell's number of units."""
+    hidden = 1 << shape.fraction_bits
+    size = cell & (hidden - 1)
+    exponent = (cell & shape.infinite) >> shape.fraction_bits
+    if exponent > 0:
+        size = hidden + size
+    if (cell & shape.sign) != 0:
+        size = -size
+    return (size, max(exponent - 1, 0))
+
+
 def units_of(shape, cell):
     """How many of the kind's units the number of a cell is, with its sign."""
-    hidden = 1 << shape.fraction_bits
-    fraction = cell & (hidden - 1)
-    exponent = (cell & shape.infinite) >> shape.fraction_bits
-    size = fraction
-    if exponent > 0:
-        size = (hidden + fraction) << (exponent - 1)
-    if (cell & shape.sign) != 0:
-        return -size
-    return size
+    parts = number_parts(shape, cell)
+    return parts[0] << parts[1]
 
 
 def row_units(shape, row):

@@ -1,9 +1,11 @@
 """The calls: what rows of cells tell."""
 
 from exactrows.cells import all_numbers, row_units, shape_of
-from exactrows.orders import in_order, quantile, row_ranks
-from exactrows.refusals import NOTHING_TO_TELL, numbers_refusal, quantile_refusal, row_refusal
+from exactrows.orders import in_order, most_often, quantile, row_bins, row_ranks
+from exactrows.refusals import NOTHING_TO_TELL
+from exactrows.refusals import bins_refusal, most_refusal, numbers_refusal, quantile_refusal, row_refusal
 from exactrows.rounding import one_answer, rounded_units
+from exactrows.together import Numbers, covariance
 
 
 def mean(kind, x):
@@ -84,6 +86,33 @@ def ranks(kind, x):
     if refused != 0:
         return [refused]
     return [0] + row_ranks(kind, x)
+
+
+def hist(kind, x, edges):
+    """0, then how many cells lie in each bin, below, above, and how many are none, or a refusal alone."""
+    refused = bins_refusal(kind, x, edges)
+    if refused != 0:
+        return [refused]
+    return [0] + row_bins(kind, x, edges)
+
+
+def most(kind, x):
+    """0, then the cell that comes most often, how often, how many different ones, or a refusal alone."""
+    refused = most_refusal(kind, x)
+    if refused != 0:
+        return [refused]
+    return [0] + most_often(kind, x)
+
+
+def cov(kind, x, y):
+    """The flags and the cell of the covariance, or a refusal alone."""
+    refused = numbers_refusal(kind, [x, y])
+    if refused != 0:
+        return [refused]
+    shape = shape_of(kind)
+    if not (all_numbers(shape, x) and all_numbers(shape, y)):
+        return told_none(shape, 1)
+    return covariance(shape, Numbers(shape, x), Numbers(shape, y))
 
 
 def told_none(shape, many):

@@ -1,8 +1,11 @@
 """What the calls refuse, and with which number; 0 where nothing is refused."""
 
 from exactrows.cells import are_cells, is_floating, is_whole
+from exactrows.orders import are_rising
 
 MOST_CELLS = 4096
+LEAST_EDGES = 2
+MOST_EDGES = 4097
 MOST_FRACTIONS = 4096
 # The first whole number that is too great for one of a fraction's two, 2^32.
 FRACTION_END = 4294967296
@@ -48,4 +51,21 @@ def quantile_refusal(kind, row, fractions):
     for i in range(0, len(fractions), 2):
         if fractions[i + 1] == 0 or fractions[i] > fractions[i + 1]:
             return WRONG_ORDER
+    return refused
+
+
+def bins_refusal(kind, row, edges):
+    """The refusal of a row of any kind with edges."""
+    if row_refusal(kind, row) != 0 or len(edges) < LEAST_EDGES or cells_refusal(kind, edges, MOST_EDGES) != 0:
+        return WRONG_FORM
+    if not are_rising(kind, edges):
+        return WRONG_ORDER
+    return 0
+
+
+def most_refusal(kind, row):
+    """The refusal of a row of any kind that is to have cells."""
+    refused = row_refusal(kind, row)
+    if refused == 0 and len(row) == 0:
+        return NOTHING_TO_TELL
     return refused

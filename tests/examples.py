@@ -23,17 +23,20 @@ def rows(kind):
 def of_one_row():
     for kind in ref.ALL_KINDS + ODD_KINDS:
         for row in rows(kind):
-            for name in ("mean", "moments", "sort", "ranks"):
+            for name in ("mean", "moments", "sort", "ranks", "most"):
                 yield name, (kind, row)
             for fractions in ([1, 2, 3, 7, 0, 1], [], [1, 0], [2, 1, 1, 2], [1, 2 ** 32]):
                 yield "quant", (kind, row, fractions)
+            for edges in ([1, 3, 5], [0, 100], [2, 2], [3, 1], [1], [0, 2 ** 64 - 1]):
+                yield "hist", (kind, row, edges)
 
 
 def of_two_rows():
     for kind in ref.ALL_KINDS + ODD_KINDS:
         for row in rows(kind):
             for other in (row[::-1], row[1:], row[-1:] + row[:-1]):
-                yield "weigh", (kind, row, other)
+                for name in ("weigh", "cov"):
+                    yield name, (kind, row, other)
 
 
 def examples():

@@ -1,5 +1,6 @@
 """What the calls should answer, worked out by fractions, with none of the program's own code."""
 
+import collections
 import struct
 from fractions import Fraction
 
@@ -207,6 +208,45 @@ def quant(kind, x, fractions):
     for flag, cell in results:
         flags |= flag
     return [flags] + [cell for flag, cell in results]
+
+
+def hist(kind, x, edges):
+    """Each cell against each edge, as the words tell it."""
+    bounds = [value(kind, edge) for edge in edges]
+    last = len(bounds) - 1
+    told = [0] * (last + 3)
+    for cell in x:
+        mine = value(kind, cell)
+        if mine is None:
+            told[last + 2] += 1
+        elif mine < bounds[0]:
+            told[last] += 1
+        elif bounds[last] < mine:
+            told[last + 1] += 1
+        elif mine == bounds[last]:
+            told[last - 1] += 1
+        else:
+            told[[bounds[i] <= mine < bounds[i + 1] for i in range(last)].index(True)] += 1
+    return [0] + told
+
+
+def most(kind, x):
+    counts = collections.Counter(one_form(kind, cell) for cell in x)
+    cell = min(counts, key=lambda cell: (-counts[cell], order(kind, cell)))
+    return [0, cell, counts[cell], len(counts)]
+
+
+def covariance(a, b):
+    """Of two lists of numbers: the mean of the products of their distances from the means."""
+    n = len(a)
+    mean_a, mean_b = sum(a) / Fraction(n), sum(b) / Fraction(n)
+    return sum((p - mean_a) * (q - mean_b) for p, q in zip(a, b)) / n
+
+
+def cov(kind, x, y):
+    if not all(is_number(kind, cell) for cell in x + y):
+        return [0, none(kind)]
+    return answer(kind, [covariance([number(kind, cell) for cell in x], [number(kind, cell) for cell in y])])
 
 
 def cell_of(kind, value):

@@ -4,7 +4,7 @@ import bisect
 import time
 import unittest
 
-from exactrows.figures import mean, moments, quant, ranks, sort, weigh
+from exactrows.figures import cov, hist, mean, moments, most, quant, ranks, sort, weigh
 from tests import reference as ref
 
 SECONDS = 20
@@ -65,3 +65,50 @@ class LongRows(unittest.TestCase):
             got = self.in_time(quant, kind, x, fractions)
             self.assertEqual(got, ref.quant(kind, x, fractions))
             self.assertEqual(quant(kind, mixed_up(x), fractions), got)
+
+    def test_hist(self):
+        for kind in ref.ALL_KINDS:
+            x = ref.mixed_cells(kind, 4096, kind)
+            ordered = ref.sort(kind, ref.mixed_cells(kind, 4097, kind + 50))[1:]
+            values = [ref.value(kind, cell) for cell in ordered]
+            # As many edges as the kind has: those that come once more and what's none are left out.
+            edges = [b for a, b, v in zip([None] + values, ordered, values) if v is not None and a != v]
+            self.assertGreater(len(edges), 200)
+            got = self.in_time(hist, kind, x, edges)
+            self.assertEqual(sum(got), 4096)
+            bounds = [ref.value(kind, edge) for edge in edges]
+            told = [0] * (len(edges) + 2)
+            for cell in x:
+                mine = ref.value(kind, cell)
+                if mine is None:
+                    told[-1] += 1
+                elif not bounds[0] <= mine <= bounds[-1]:
+                    told[-3 if mine < bounds[0] else -2] += 1
+                else:
+                    told[bisect.bisect_right(bounds[1:-1], mine)] += 1
+            self.assertEqual(got, [0] + told)
+
+    def test_hist_with_as_many_edges_as_may_be(self):
+        for kind in ref.ALL_KINDS:
+            if ref.BYTES[kind] > 1:
+                x = mixed_up(range(1, 4097))
+                self.assertEqual(self.in_time(hist, kind, x, list(range(4097))), [0, 0] + [1] * 4094 + [2, 0, 0, 0])
+
+    def test_most(self):
+        for kind in ref.ALL_KINDS:
+            x = ref.mixed_cells(kind, 4096, kind)
+            self.assertEqual(self.in_time(most, kind, x), ref.most(kind, x))
+
+    def test_cov(self):
+        for kind in ref.KINDS:
+            x = ref.spread_cells(kind, 4096, kind)
+            y = ref.spread_cells(kind, 4096, kind + 100)
+            got = self.in_time(cov, kind, x, y)
+            self.assertEqual(got, ref.cov(kind, x, y))
+            self.assertEqual(cov(kind, mixed_up(x), mixed_up(y)), got)
+        # From the least cells up to about 2^400: not too great.
+        x = ref.spread_cells(12, 4096, 5, 0, 1423)
+        y = ref.spread_cells(12, 4096, 6, 0, 1423)
+        got = cov(12, x, y)
+        self.assertEqual(got, ref.cov(12, x, y))
+        self.assertEqual(got[0], 16)
