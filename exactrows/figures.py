@@ -3,9 +3,9 @@
 from exactrows.cells import all_numbers, row_units, shape_of
 from exactrows.orders import in_order, most_often, quantile, row_bins, row_ranks
 from exactrows.refusals import NOTHING_TO_TELL
-from exactrows.refusals import bins_refusal, most_refusal, numbers_refusal, quantile_refusal, row_refusal
-from exactrows.rounding import one_answer, rounded_units
-from exactrows.together import Numbers, covariance
+from exactrows.refusals import bins_refusal, most_refusal, numbers_refusal, quantile_refusal, row_refusal, rows_refusal
+from exactrows.rounding import one_answer, rounded_by_root, rounded_units
+from exactrows.together import Numbers, covariance, covariances, joint_spread, line_through
 
 
 def mean(kind, x):
@@ -113,6 +113,48 @@ def cov(kind, x, y):
     if not (all_numbers(shape, x) and all_numbers(shape, y)):
         return told_none(shape, 1)
     return covariance(shape, Numbers(shape, x), Numbers(shape, y))
+
+
+def covs(kind, rows):
+    """The flags of all, then for each row, for each row the covariance's cell, or a refusal alone."""
+    refused = rows_refusal(kind, rows)
+    if refused != 0:
+        return [refused]
+    shape = shape_of(kind)
+    numbers = [Numbers(shape, row) if all_numbers(shape, row) else None for row in rows]
+    return one_answer(covariances(shape, numbers))
+
+
+def corr(kind, x, y):
+    """The flags and the cell of the covariance by the root of both rows' c2, or a refusal alone."""
+    refused = numbers_refusal(kind, [x, y])
+    if refused != 0:
+        return [refused]
+    shape = shape_of(kind)
+    if not (all_numbers(shape, x) and all_numbers(shape, y)):
+        return told_none(shape, 1)
+    first = Numbers(shape, x)
+    second = Numbers(shape, y)
+    # The product of both rows' c2, times n to the fourth: n squared stands above and below the fraction bar alike.
+    square = joint_spread(first, first) * joint_spread(second, second)
+    if square == 0:
+        return [NOTHING_TO_TELL]
+    return rounded_by_root(shape, joint_spread(first, second), square)
+
+
+def line(kind, x, y):
+    """The flags of both, then the slope and the height of the line, or a refusal alone."""
+    refused = numbers_refusal(kind, [x, y])
+    if refused != 0:
+        return [refused]
+    shape = shape_of(kind)
+    if not (all_numbers(shape, x) and all_numbers(shape, y)):
+        return told_none(shape, 2)
+    first = Numbers(shape, x)
+    spread = joint_spread(first, first)
+    if spread == 0:
+        return [NOTHING_TO_TELL]
+    return one_answer(line_through(shape, first, Numbers(shape, y), spread))
 
 
 def told_none(shape, many):

@@ -4,6 +4,7 @@ from exactrows.cells import are_cells, is_floating, is_whole
 from exactrows.orders import are_rising
 
 MOST_CELLS = 4096
+MOST_ROWS = 64
 LEAST_EDGES = 2
 MOST_EDGES = 4097
 MOST_FRACTIONS = 4096
@@ -30,7 +31,7 @@ def cells_refusal(kind, cells, most_cells):
 
 
 def numbers_refusal(kind, rows):
-    """The refusal of rows that go together and tell numbers of a floating kind."""
+    """The refusal of one row or more that go together and tell numbers of a floating kind."""
     if not is_floating(kind):
         return WRONG_FORM
     for row in rows:
@@ -39,6 +40,15 @@ def numbers_refusal(kind, rows):
     if len(rows[0]) == 0:
         return NOTHING_TO_TELL
     return 0
+
+
+def rows_refusal(kind, rows):
+    """The refusal of any number of rows that go together and tell numbers of a floating kind."""
+    if not is_floating(kind) or len(rows) > MOST_ROWS:
+        return WRONG_FORM
+    if len(rows) == 0:
+        return NOTHING_TO_TELL
+    return numbers_refusal(kind, rows)
 
 
 def quantile_refusal(kind, row, fractions):

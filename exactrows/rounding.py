@@ -66,6 +66,38 @@ def stays_small(shape, above, below, power):
     return nearest(parts[0], parts[1]) < (1 << (shape.least_power - power + shape.fraction_bits))
 
 
+def rounded_by_root(shape, above, square):
+    """The flags and the cell of above by the root of the square, which is above 0; rounded once."""
+    if above == 0:
+        return [0, 0]
+    parts = near_root(shape, above ** 2, square)
+    if above < 0:
+        return rounded(shape, -parts[0], parts[1])
+    return rounded(shape, parts[0], parts[1])
+
+
+def near_root(shape, above, below):
+    """A fraction that is rounded just as the root of above / below is, both above 0; its two whole parts."""
+    power = floor_power(above, below) // 2
+    # Each cell, and each middle of two, that the root could lie at is a multiple of 2 to the power -depth.
+    depth = shape.fraction_bits + 1 - power
+    parts = by_power(above, below, -2 * depth)
+    multiple = floor_root(parts[0] // parts[1])
+    # Where the root lies between two multiples, it's enough to tell that: halfway stands for all places there.
+    between = 0 if multiple ** 2 * parts[1] == parts[0] else 1
+    return by_power(2 * multiple + between, 1, depth + 1)
+
+
+def floor_root(number):
+    """The greatest whole number whose square is at most the number, which is above 0."""
+    root = 1 << ((number.bit_length() + 1) // 2)
+    closer = (root + number // root) // 2
+    while closer < root:
+        root = closer
+        closer = (root + number // root) // 2
+    return root
+
+
 def rounded_units(shape, above, below, degree):
     """The flags and the cell of above / below times the kind's unit to the degree."""
     return rounded(shape, above, below << (degree * shape.unit_depth))

@@ -35,13 +35,24 @@ def of_two_rows():
     for kind in ref.ALL_KINDS + ODD_KINDS:
         for row in rows(kind):
             for other in (row[::-1], row[1:], row[-1:] + row[:-1]):
-                for name in ("weigh", "cov"):
+                for name in ("weigh", "cov", "corr", "line"):
                     yield name, (kind, row, other)
+
+
+def of_many_rows():
+    for kind in ref.ALL_KINDS + ODD_KINDS:
+        yield "covs", (kind, [])
+        yield "covs", (kind, [[1]] * 65)
+        for row in rows(kind):
+            if len(row) <= 240:
+                yield "covs", (kind, [row])
+                yield "covs", (kind, [row, row[::-1], row])
+                yield "covs", (kind, [row, row[1:]])
 
 
 def examples():
     """The calls' names with their arguments."""
-    return list(of_one_row()) + list(of_two_rows())
+    return list(of_one_row()) + list(of_two_rows()) + list(of_many_rows())
 
 
 def call(name, args):

@@ -249,6 +249,70 @@ def cov(kind, x, y):
     return answer(kind, [covariance([number(kind, cell) for cell in x], [number(kind, cell) for cell in y])])
 
 
+def covs(kind, rows):
+    flags = 0
+    cells = []
+    for x in rows:
+        for y in rows:
+            flag, cell = cov(kind, x, y)
+            flags |= flag
+            cells.append(cell)
+    return [flags] + cells
+
+
+def rounded_root(kind, square, sign):
+    """The flags and the cell of the root of the square, with the sign's bit: all compared by their squares."""
+    low, high = 0, infinite(kind)
+    while low < high:
+        middle = (low + high + 1) // 2
+        if size_of(kind, middle) ** 2 <= square:
+            low = middle
+        else:
+            high = middle - 1
+    cell = low
+    if cell < infinite(kind):
+        middle = ((size_of(kind, cell) + size_of(kind, cell + 1)) / 2) ** 2
+        if square > middle or (square == middle and cell % 2 == 1):
+            cell += 1
+    if cell == infinite(kind):
+        return 4 + 16, sign + cell
+    if size_of(kind, cell) ** 2 == square:
+        return 0, sign + cell
+    small = square < (size_of(kind, least_ordinary(kind)) - unit(kind) / 4) ** 2
+    return 16 + (8 if small else 0), sign + cell
+
+
+def corr(kind, x, y):
+    if not all(is_number(kind, cell) for cell in x + y):
+        return [0, none(kind)]
+    a, b = [number(kind, cell) for cell in x], [number(kind, cell) for cell in y]
+    both = covariance(a, a) * covariance(b, b)
+    if both == 0:
+        return [-4]
+    joint = covariance(a, b)
+    if joint == 0:
+        return [0, 0]
+    return list(rounded_root(kind, joint ** 2 / both, sign_bit(kind) if joint < 0 else 0))
+
+
+def exact_line(a, b):
+    """Slope and height for which the sum of b - height - slope a and that of (b - height - slope a) a are 0."""
+    n, sum_a, sum_b = Fraction(len(a)), sum(a), sum(b)
+    squares, products = sum(p * p for p in a), sum(p * q for p, q in zip(a, b))
+    # height n + slope sum_a = sum_b and height sum_a + slope squares = products.
+    scale = n * squares - sum_a * sum_a
+    return (n * products - sum_a * sum_b) / scale, (squares * sum_b - sum_a * products) / scale
+
+
+def line(kind, x, y):
+    if not all(is_number(kind, cell) for cell in x + y):
+        return [0, none(kind), none(kind)]
+    a, b = [number(kind, cell) for cell in x], [number(kind, cell) for cell in y]
+    if len(set(a)) == 1:
+        return [-4]
+    return answer(kind, exact_line(a, b))
+
+
 def cell_of(kind, value):
     """The cell of a Python float that the kind holds exactly, as Python itself packs it."""
     code, whole = {9: ("<e", "<H"), 10: ("<f", "<I"), 11: ("<f", "<I"), 12: ("<d", "<Q")}[kind]

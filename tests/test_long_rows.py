@@ -4,7 +4,7 @@ import bisect
 import time
 import unittest
 
-from exactrows.figures import cov, hist, mean, moments, most, quant, ranks, sort, weigh
+from exactrows.figures import corr, cov, covs, hist, line, mean, moments, most, quant, ranks, sort, weigh
 from tests import reference as ref
 
 SECONDS = 20
@@ -112,3 +112,31 @@ class LongRows(unittest.TestCase):
         got = cov(12, x, y)
         self.assertEqual(got, ref.cov(12, x, y))
         self.assertEqual(got[0], 16)
+
+    def test_corr_and_line(self):
+        for kind in ref.KINDS:
+            x = ref.spread_cells(kind, 4096, kind)
+            y = ref.spread_cells(kind, 4096, kind + 100)
+            for call, told in ((corr, ref.corr(kind, x, y)), (line, ref.line(kind, x, y))):
+                self.assertEqual(self.in_time(call, kind, x, y), told)
+                self.assertEqual(call(kind, mixed_up(x), mixed_up(y)), told)
+
+    def test_covs_of_as_many_rows_as_may_be(self):
+        for kind in ref.KINDS:
+            rows = [ref.spread_cells(kind, 240, 1000 * kind + i) for i in range(64)]
+            got = self.in_time(covs, kind, rows)
+            self.assertEqual(len(got), 1 + 64 * 64)
+            for i, j in ((0, 0), (0, 63), (63, 0), (63, 63), (5, 17), (17, 5), (40, 40)):
+                self.assertEqual(got[1 + 64 * i + j], ref.cov(kind, rows[i], rows[j])[1])
+            # The flags of all: each one that a pair has.
+            flags = 0
+            for i in range(64):
+                for j in range(i, 64):
+                    flag, cell = cov(kind, rows[i], rows[j])
+                    flags |= flag
+                    self.assertEqual([got[1 + 64 * i + j], got[1 + 64 * j + i]], [cell, cell])
+            self.assertEqual(got[0], flags)
+
+    def test_covs_of_rows_beyond_240_cells(self):
+        rows = [ref.spread_cells(9, 4096, i) for i in range(2)]
+        self.assertEqual(covs(9, rows), ref.covs(9, rows))
