@@ -1,11 +1,12 @@
-"""The calls: what rows of cells tell."""
+"""The calls: what rows of cells tell, and places drawn again."""
 
 from exactrows.cells import all_numbers, row_units, shape_of
+from exactrows.draws import drawn, shuffled
 from exactrows.orders import in_order, most_often, quantile, row_bins, row_ranks
-from exactrows.refusals import NOTHING_TO_TELL
-from exactrows.refusals import bins_refusal, most_refusal, numbers_refusal, quantile_refusal, row_refusal, rows_refusal
+from exactrows.refusals import NOTHING_TO_TELL, again_refusal, bins_refusal, draws_refusal, most_refusal
+from exactrows.refusals import numbers_refusal, pairs_refusal, quantile_refusal, row_refusal, rows_refusal
 from exactrows.rounding import one_answer, rounded_by_root, rounded_units
-from exactrows.together import Numbers, covariance, covariances, joint_spread, line_through
+from exactrows.together import Numbers, covariance, covariances, joint_spread, line_through, row_pairs
 
 
 def mean(kind, x):
@@ -155,6 +156,30 @@ def line(kind, x, y):
     if spread == 0:
         return [NOTHING_TO_TELL]
     return one_answer(line_through(shape, first, Numbers(shape, y), spread))
+
+
+def pairs(kind, x, y):
+    """0, then how many pairs are the same way about, the other way, alike, apart, or a refusal alone."""
+    refused = pairs_refusal(kind, x, y)
+    if refused != 0:
+        return [refused]
+    return [0] + row_pairs(kind, x, y)
+
+
+def again(stream, first, n, m, key):
+    """0, then m numbers below n, or a refusal alone."""
+    refused = again_refusal(n, m, key)
+    if refused != 0:
+        return [refused]
+    return [0] + drawn(key, stream, first, n, m)
+
+
+def shuffle(stream, first, n, key):
+    """0, then the numbers from 0 to n - 1 in an order that is drawn, or a refusal alone."""
+    refused = draws_refusal(n, key)
+    if refused != 0:
+        return [refused]
+    return [0] + shuffled(key, stream, first, n)
 
 
 def told_none(shape, many):

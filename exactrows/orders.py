@@ -50,11 +50,11 @@ def row_ranks(kind, row):
     return [rank_at[place] for place in places]
 
 
-def counted(numbers):
-    """How often each number comes, under the number, in the order in which they came first."""
+def counted(values):
+    """How often each value comes, under the value, in the order in which they came first."""
     counts = {}
-    for number in numbers:
-        counts[number] = counts.get(number, 0) + 1
+    for value in values:
+        counts[value] = counts.get(value, 0) + 1
     return counts
 
 

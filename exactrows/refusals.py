@@ -8,8 +8,10 @@ MOST_ROWS = 64
 LEAST_EDGES = 2
 MOST_EDGES = 4097
 MOST_FRACTIONS = 4096
-# The first whole number that is too great for one of a fraction's two, 2^32.
-FRACTION_END = 4294967296
+MOST_DRAWS = 4096
+KEY_LENGTH = 4
+# 2^32: the first whole number that is too great for one of a fraction's two and for a key's word.
+WORD_END = 4294967296
 
 WRONG_FORM = -1
 WRONG_ORDER = -2
@@ -56,7 +58,7 @@ def quantile_refusal(kind, row, fractions):
     refused = numbers_refusal(kind, [row])
     if refused == WRONG_FORM or len(fractions) > 2 * MOST_FRACTIONS:
         return WRONG_FORM
-    if any([number >= FRACTION_END for number in fractions]):
+    if any([number >= WORD_END for number in fractions]):
         return WRONG_FORM
     for i in range(0, len(fractions), 2):
         if fractions[i + 1] == 0 or fractions[i] > fractions[i + 1]:
@@ -79,3 +81,24 @@ def most_refusal(kind, row):
     if refused == 0 and len(row) == 0:
         return NOTHING_TO_TELL
     return refused
+
+
+def pairs_refusal(kind, x, y):
+    """The refusal of two rows of any kind that go together, which may be without cells."""
+    if row_refusal(kind, x) != 0 or row_refusal(kind, y) != 0 or len(x) != len(y):
+        return WRONG_FORM
+    return 0
+
+
+def again_refusal(n, m, key):
+    """The refusal of m draws below n."""
+    if n == 0 or n > WORD_END:
+        return WRONG_FORM
+    return draws_refusal(m, key)
+
+
+def draws_refusal(many, key):
+    """The refusal of so many draws of a key."""
+    if many > MOST_DRAWS or len(key) != KEY_LENGTH or any([word >= WORD_END for word in key]):
+        return WRONG_FORM
+    return 0

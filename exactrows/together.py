@@ -1,6 +1,7 @@
-"""What rows tell together: how they spread, each with another or with itself."""
+"""What rows tell together: how they spread, each with another or with itself, the line, and pairs of places."""
 
-from exactrows.cells import number_parts
+from exactrows.cells import NONE_PLACE, number_parts, value_places
+from exactrows.orders import count_at_most, counted
 from exactrows.rounding import rounded, rounded_units
 
 
@@ -48,3 +49,37 @@ def line_through(shape, x, y, spread):
     # The height is that of the exact slope, joint / spread.
     height = rounded_units(shape, y.total * spread - joint * x.total, len(x.parts) * spread, 1)
     return [slope, height]
+
+
+def row_pairs(kind, x, y):
+    """Of all pairs of places: how many are less the same way about, the other way about, alike, apart."""
+    points = [point for point in zip(value_places(kind, x), value_places(kind, y)) if NONE_PLACE not in point]
+    compared = pairs_among(len(points))
+    apart = pairs_among(len(x)) - compared
+    # Those that are equal in x and in y stand in both counts.
+    alike = equal_pairs([point[0] for point in points]) + equal_pairs([point[1] for point in points])
+    alike = alike - equal_pairs(points)
+    # With x in order, and y where x is equal, y falls just where it's less the other way about.
+    other = falling_pairs([point[1] for point in sorted(points)])
+    return [compared - alike - other, other, alike, apart]
+
+
+def pairs_among(count):
+    """How many pairs there are among so many."""
+    return count * (count - 1) // 2
+
+
+def equal_pairs(values):
+    """How many pairs of the values are equal."""
+    return sum([pairs_among(count) for count in counted(values).values()])
+
+
+def falling_pairs(numbers):
+    """How many pairs of the numbers have the greater one first."""
+    falls = 0
+    seen = []
+    for number in numbers:
+        place = count_at_most(seen, number)
+        falls = falls + len(seen) - place
+        seen.insert(place, number)
+    return falls

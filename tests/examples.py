@@ -35,7 +35,7 @@ def of_two_rows():
     for kind in ref.ALL_KINDS + ODD_KINDS:
         for row in rows(kind):
             for other in (row[::-1], row[1:], row[-1:] + row[:-1]):
-                for name in ("weigh", "cov", "corr", "line"):
+                for name in ("weigh", "cov", "corr", "line", "pairs"):
                     yield name, (kind, row, other)
 
 
@@ -50,9 +50,18 @@ def of_many_rows():
                 yield "covs", (kind, [row, row[1:]])
 
 
+def of_draws():
+    for key in ([1, 2, 3, 4], [2 ** 32 - 1] * 4, [0, 0, 0, 2 ** 32], [1, 2, 3], [1, 2, 3, 4, 5], []):
+        for stream, first in ((0, 0), (7, 2 ** 64 - 2), (2 ** 64 - 1, 2 ** 32)):
+            for n, m in ((10, 3), (2 ** 32, 4), (1, 0), (0, 1), (2 ** 32 + 1, 1), (5, 4097)):
+                yield "again", (stream, first, n, m, key)
+            for n in (0, 1, 2, 20, 4097):
+                yield "shuffle", (stream, first, n, key)
+
+
 def examples():
     """The calls' names with their arguments."""
-    return list(of_one_row()) + list(of_two_rows()) + list(of_many_rows())
+    return list(of_one_row()) + list(of_two_rows()) + list(of_many_rows()) + list(of_draws())
 
 
 def call(name, args):

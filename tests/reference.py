@@ -313,6 +313,23 @@ def line(kind, x, y):
     return answer(kind, exact_line(a, b))
 
 
+def pairs(kind, x, y):
+    """Each place with each behind it, as the words tell it."""
+    a, b = [value(kind, cell) for cell in x], [value(kind, cell) for cell in y]
+    told = {"same": 0, "other": 0, "alike": 0, "apart": 0}
+    for i in range(len(x)):
+        for j in range(i + 1, len(x)):
+            if None in (a[i], a[j], b[i], b[j]):
+                told["apart"] += 1
+            elif a[i] == a[j] or b[i] == b[j]:
+                told["alike"] += 1
+            elif (a[i] < a[j]) == (b[i] < b[j]):
+                told["same"] += 1
+            else:
+                told["other"] += 1
+    return [0] + list(told.values())
+
+
 def cell_of(kind, value):
     """The cell of a Python float that the kind holds exactly, as Python itself packs it."""
     code, whole = {9: ("<e", "<H"), 10: ("<f", "<I"), 11: ("<f", "<I"), 12: ("<d", "<Q")}[kind]

@@ -4,7 +4,8 @@ import bisect
 import time
 import unittest
 
-from exactrows.figures import corr, cov, covs, hist, line, mean, moments, most, quant, ranks, sort, weigh
+from exactrows.figures import again, corr, cov, covs, hist, line, mean, moments, most, pairs, quant, ranks, shuffle, sort
+from exactrows.figures import weigh
 from tests import reference as ref
 
 SECONDS = 20
@@ -140,3 +141,25 @@ class LongRows(unittest.TestCase):
     def test_covs_of_rows_beyond_240_cells(self):
         rows = [ref.spread_cells(9, 4096, i) for i in range(2)]
         self.assertEqual(covs(9, rows), ref.covs(9, rows))
+
+    def test_pairs(self):
+        # Each place with each is too many for the reference: rows whose counts follow from how they're made.
+        for kind in ref.ALL_KINDS:
+            rising = list(range(128)) * 32
+            falling = [127 - cell for cell in rising]
+            # Of each of 128 values 32 cells.
+            alike = 128 * (32 * 31 // 2)
+            rest = 4096 * 4095 // 2 - alike
+            self.assertEqual(self.in_time(pairs, kind, rising, rising), [0, rest, 0, alike, 0])
+            self.assertEqual(self.in_time(pairs, kind, rising, falling), [0, 0, rest, alike, 0])
+            self.assertEqual(sum(pairs(kind, ref.mixed_cells(kind, 4096, 1), ref.mixed_cells(kind, 4096, 2))), 4096 * 4095 // 2)
+
+    def test_pairs_against_the_reference(self):
+        for kind in ref.ALL_KINDS:
+            x, y = ref.mixed_cells(kind, 600, kind), ref.mixed_cells(kind, 600, kind + 20)
+            self.assertEqual(self.in_time(pairs, kind, x, y), ref.pairs(kind, x, y))
+
+    def test_draws(self):
+        key = [1, 2 ** 32 - 1, 3, 2 ** 31]
+        self.assertEqual(len(self.in_time(again, 5, 2 ** 64 - 9, 2 ** 32 - 5, 4096, key)), 4097)
+        self.assertEqual(len(self.in_time(shuffle, 5, 2 ** 64 - 9, 4096, key)), 4097)
