@@ -11,23 +11,19 @@ from exactrows.together import Numbers, covariance, covariances, joint_spread, l
 
 def mean(kind, x):
     """The flags and the cell of the mean, or a refusal alone."""
-    refused = numbers_refusal(kind, [x])
-    if refused != 0:
-        return [refused]
+    without = answer_without_numbers(kind, [x], 1)
+    if len(without) > 0:
+        return without
     shape = shape_of(kind)
-    if not all_numbers(shape, x):
-        return told_none(shape, 1)
     return rounded_units(shape, sum(row_units(shape, x)), len(x), 1)
 
 
 def moments(kind, x):
     """The flags of all, then the mean, c2, the sample's variance, c3 and c4, or a refusal alone."""
-    refused = numbers_refusal(kind, [x])
-    if refused != 0:
-        return [refused]
+    without = answer_without_numbers(kind, [x], 5)
+    if len(without) > 0:
+        return without
     shape = shape_of(kind)
-    if not all_numbers(shape, x):
-        return told_none(shape, 5)
     n = len(x)
     units = row_units(shape, x)
     total = sum(units)
@@ -47,12 +43,10 @@ def moments(kind, x):
 
 def weigh(kind, x, w):
     """The flags and the cell of the mean of x weighted by w, or a refusal alone."""
-    refused = numbers_refusal(kind, [x, w])
-    if refused != 0:
-        return [refused]
+    without = answer_without_numbers(kind, [x, w], 1)
+    if len(without) > 0:
+        return without
     shape = shape_of(kind)
-    if not (all_numbers(shape, x) and all_numbers(shape, w)):
-        return told_none(shape, 1)
     weights = row_units(shape, w)
     weight = sum(weights)
     if weight == 0:
@@ -107,12 +101,10 @@ def most(kind, x):
 
 def cov(kind, x, y):
     """The flags and the cell of the covariance, or a refusal alone."""
-    refused = numbers_refusal(kind, [x, y])
-    if refused != 0:
-        return [refused]
+    without = answer_without_numbers(kind, [x, y], 1)
+    if len(without) > 0:
+        return without
     shape = shape_of(kind)
-    if not (all_numbers(shape, x) and all_numbers(shape, y)):
-        return told_none(shape, 1)
     return covariance(shape, Numbers(shape, x), Numbers(shape, y))
 
 
@@ -128,12 +120,10 @@ def covs(kind, rows):
 
 def corr(kind, x, y):
     """The flags and the cell of the covariance by the root of both rows' c2, or a refusal alone."""
-    refused = numbers_refusal(kind, [x, y])
-    if refused != 0:
-        return [refused]
+    without = answer_without_numbers(kind, [x, y], 1)
+    if len(without) > 0:
+        return without
     shape = shape_of(kind)
-    if not (all_numbers(shape, x) and all_numbers(shape, y)):
-        return told_none(shape, 1)
     first = Numbers(shape, x)
     second = Numbers(shape, y)
     # The product of both rows' c2, times n to the fourth: n squared stands above and below the fraction bar alike.
@@ -145,12 +135,10 @@ def corr(kind, x, y):
 
 def line(kind, x, y):
     """The flags of both, then the slope and the height of the line, or a refusal alone."""
-    refused = numbers_refusal(kind, [x, y])
-    if refused != 0:
-        return [refused]
+    without = answer_without_numbers(kind, [x, y], 2)
+    if len(without) > 0:
+        return without
     shape = shape_of(kind)
-    if not (all_numbers(shape, x) and all_numbers(shape, y)):
-        return told_none(shape, 2)
     first = Numbers(shape, x)
     spread = joint_spread(first, first)
     if spread == 0:
@@ -182,8 +170,14 @@ def shuffle(stream, first, n, key):
     return [0] + shuffled(key, stream, first, n)
 
 
-def told_none(shape, many):
-    """The answer that tells what's none in place of each of so many numbers."""
+def answer_without_numbers(kind, rows, many):
+    """What is answered where the rows tell no numbers: a refusal, or so many times what's none; empty if they do."""
+    refused = numbers_refusal(kind, rows)
+    if refused != 0:
+        return [refused]
+    shape = shape_of(kind)
+    if all([all_numbers(shape, row) for row in rows]):
+        return []
     return [0] + [shape.none] * many
 
 

@@ -7,6 +7,7 @@ from fractions import Fraction
 
 from exactrows.figures import corr
 from tests import reference as ref
+from tests import refused
 
 
 def whole_cell(kind, number, power=0):
@@ -315,36 +316,13 @@ class NoneAndInfinite(unittest.TestCase):
                 self.assertEqual(corr(kind, [cell, cell], [cell, cell]), told)
 
 
-class Refusals(unittest.TestCase):
-    def test_other_kinds(self):
-        for kind in ref.OTHER_KINDS + ref.WHOLE_KINDS:
-            for x in ([], [0], [1, 2], [0] * 4097):
-                self.assertEqual(corr(kind, x, x), [-1])
+class Refusals(refused.TwoRows, unittest.TestCase):
+    call = staticmethod(corr)
 
-    def test_numbers_that_are_no_cells(self):
-        for kind in ref.KINDS:
-            for number in ref.no_cells(kind):
-                for x, y in (([number], [0]), ([0], [number]), ([0, number], [ref.none(kind), 0]), ([1, 2], [1, number]),
-                             ([1, 1], [1, number])):
-                    self.assertEqual(corr(kind, x, y), [-1])
-
-    def test_rows_of_different_lengths(self):
-        for kind in ref.KINDS:
-            for x, y in (([1], []), ([], [1]), ([1, 2], [1]), ([1], [1, 2]), ([ref.none(kind)], [1, 2]),
-                         ([1] * 4096, [1] * 4095), ([1] * 4096, [1] * 4097), ([1] * 4097, [1] * 4096)):
-                self.assertEqual(corr(kind, x, y), [-1])
-
-    def test_the_longest_rows_and_longer_ones(self):
+    def test_the_longest_rows(self):
         for kind in ref.KINDS:
             one = ref.cell_of(kind, 1.0)
             self.assertEqual(corr(kind, [1] * 4095 + [2], [2] * 4095 + [4]), [0, one])
-            for n in (4097, 4200):
-                for cell in (1, ref.none(kind)):
-                    self.assertEqual(corr(kind, [cell] * n, [1] * n), [-1])
-
-    def test_no_cells(self):
-        for kind in ref.KINDS:
-            self.assertEqual(corr(kind, [], []), [-4])
 
     def test_c2_0(self):
         for kind in ref.KINDS:

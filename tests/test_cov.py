@@ -5,6 +5,7 @@ import unittest
 
 from exactrows.figures import cov, moments
 from tests import reference as ref
+from tests import refused
 
 
 class WorkedOutByHand(unittest.TestCase):
@@ -129,31 +130,9 @@ class NoneAndInfinite(unittest.TestCase):
                 self.assertEqual(cov(kind, [cell], [cell]), told)
 
 
-class Refusals(unittest.TestCase):
-    def test_other_kinds(self):
-        for kind in ref.OTHER_KINDS + ref.WHOLE_KINDS:
-            for x in ([], [0], [1, 2], [0] * 4097):
-                self.assertEqual(cov(kind, x, x), [-1])
+class Refusals(refused.TwoRows, unittest.TestCase):
+    call = staticmethod(cov)
 
-    def test_numbers_that_are_no_cells(self):
-        for kind in ref.KINDS:
-            for number in ref.no_cells(kind):
-                for x, y in (([number], [0]), ([0], [number]), ([0, number], [ref.none(kind), 0]), ([1, 2], [1, number])):
-                    self.assertEqual(cov(kind, x, y), [-1])
-
-    def test_rows_of_different_lengths(self):
-        for kind in ref.KINDS:
-            for x, y in (([1], []), ([], [1]), ([1, 2], [1]), ([1], [1, 2]), ([ref.none(kind)], [1, 2]),
-                         ([1] * 4096, [1] * 4095), ([1] * 4096, [1] * 4097), ([1] * 4097, [1] * 4096)):
-                self.assertEqual(cov(kind, x, y), [-1])
-
-    def test_the_longest_rows_and_longer_ones(self):
+    def test_the_longest_rows(self):
         for kind in ref.KINDS:
             self.assertEqual(cov(kind, [1] * 4096, [2] * 4096), [0, 0])
-            for n in (4097, 4200):
-                for cell in (1, ref.none(kind)):
-                    self.assertEqual(cov(kind, [cell] * n, [1] * n), [-1])
-
-    def test_no_cells(self):
-        for kind in ref.KINDS:
-            self.assertEqual(cov(kind, [], []), [-4])

@@ -5,6 +5,7 @@ import unittest
 
 from exactrows.figures import ranks
 from tests import reference as ref
+from tests import refused
 
 
 class WorkedOutByHand(unittest.TestCase):
@@ -77,22 +78,9 @@ class EachKind(unittest.TestCase):
             self.assertEqual(ranks(kind, x[::-1])[1:], ranks(kind, x)[:0:-1])
 
 
-class Refusals(unittest.TestCase):
-    def test_other_kinds(self):
-        for kind in ref.OTHER_KINDS:
-            for x in ([], [0], [3, 2, 1], [2 ** 64 - 1], [0] * 4097):
-                self.assertEqual(ranks(kind, x), [-1])
+class Refusals(refused.OneRow, unittest.TestCase):
+    call = staticmethod(ranks)
 
-    def test_numbers_that_are_no_cells(self):
-        for kind in ref.ALL_KINDS:
-            end = 2 ** (8 * ref.BYTES[kind])
-            self.assertEqual(ranks(kind, [end - 1]), [0, 2])
-            for number in ref.no_cells(kind):
-                for x in ([number], [number, 0], [0, number], [1, number, 2, 3]):
-                    self.assertEqual(ranks(kind, x), [-1])
-
-    def test_the_longest_row_and_a_longer_one(self):
+    def test_the_longest_row(self):
         for kind in ref.ALL_KINDS:
             self.assertEqual(ranks(kind, [1] * 4096), [0] + [4097] * 4096)
-            for n in (4097, 4200):
-                self.assertEqual(ranks(kind, [1] * n), [-1])

@@ -5,6 +5,7 @@ import unittest
 
 from exactrows.figures import sort
 from tests import reference as ref
+from tests import refused
 
 
 class WholeKinds(unittest.TestCase):
@@ -114,22 +115,9 @@ class EachKind(unittest.TestCase):
             self.assertEqual(sort(kind, told[1:]), told)
 
 
-class Refusals(unittest.TestCase):
-    def test_other_kinds(self):
-        for kind in ref.OTHER_KINDS:
-            for x in ([], [0], [3, 2, 1], [2 ** 64 - 1], [0] * 4097):
-                self.assertEqual(sort(kind, x), [-1])
+class Refusals(refused.OneRow, unittest.TestCase):
+    call = staticmethod(sort)
 
-    def test_numbers_that_are_no_cells(self):
-        for kind in ref.ALL_KINDS:
-            end = 2 ** (8 * ref.BYTES[kind])
-            self.assertEqual(len(sort(kind, [end - 1])), 2)
-            for number in ref.no_cells(kind):
-                for x in ([number], [number, 0], [0, number], [1, number, 2, 3]):
-                    self.assertEqual(sort(kind, x), [-1])
-
-    def test_the_longest_row_and_a_longer_one(self):
+    def test_the_longest_row(self):
         for kind in ref.ALL_KINDS:
             self.assertEqual(sort(kind, [1] * 4095 + [0]), [0, 0] + [1] * 4095)
-            for n in (4097, 4200):
-                self.assertEqual(sort(kind, [1] * n), [-1])
